@@ -1,0 +1,1 @@
+"""Seatworth: seats sold over time, each ask at its chance."""
