@@ -5,3 +5,8 @@ def is_whole(thing):
     """Tell whether a thing of whatever kind is a whole number."""
     # True and False are ints to Python, so isinstance alone would let them in.
     return isinstance(thing, int) and not isinstance(thing, bool)
+
+
+def is_between(thing, least, most):
+    """Tell whether a thing of whatever kind is a whole number from the least to the most one."""
+    return is_whole(thing) and least <= thing <= most

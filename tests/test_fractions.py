@@ -1,25 +1,17 @@
 """Tests of fractions: point [5], and points [2] and [3] as far as they bear on them."""
 
 import copy
-import inspect
 import math
 import unittest
 from fractions import Fraction
 
-from seatworth import errors, fractions
+import things
+from plainly import exact, pair
+from seatworth import errors
 from seatworth.fractions import added, fraction, is_fraction, is_less
+from things import GREAT, NO_WHOLES, OTHER_KINDS
 
-GREAT = 10 ** 30 - 1
 EVEN_GREAT = 10 ** 30 - 2
-
-
-def nested(depth):
-    """A list in a tuple in a list .., so many deep."""
-    thing = []
-    for k in range(depth - 1):
-        thing = (thing,) if k % 2 else [thing]
-    return thing
-
 
 FRACTIONS = (
     (0, 1), (1, 1), (-1, 1), (2, 1), (-2, 1), (1, 2), (-1, 2), (2, 3), (-2, 3), (3, 2), (-3, 2),
@@ -45,33 +37,14 @@ NO_NUMBERS_INSIDE = (
     (None, 1), (1, None), (None, None), ("1", 1), (1, "1"), ("1", "2"), ("", ""), ([], 1), (1, []), ([1], [2]), ((), ()),
     ({}, 1), (1, {}), ({1: 2}, {1: 2}), ((1,), (2,)),
 )
-OTHER_KINDS = (
-    None, True, False, 0, 1, -1, GREAT, -GREAT, "", "0", "1/2", "(0, 1)", "12", "ab", "a\tb\n", "x" * 1000,
-    [], [0, 1], [1, 2], [-1, 2], [1], [1, 2, 3], [(0, 1)], [[0, 1]], {}, {0: 1}, {1: 2}, {0: 0, 1: 1}, {"top": 1, "bottom": 2},
-    {(0, 1): (0, 1)}, nested(9), nested(10), [0] * 1999, {k: k for k in range(900)}, [[0, 1], {"a": (None, [True])}],
-)
 NO_FRACTIONS = NOT_LEAST + BAD_BOTTOMS + TRUTHS_INSIDE + NO_PAIRS + NO_NUMBERS_INSIDE + OTHER_KINDS
 
-NO_WHOLES = (None, True, False, "", "1", "ab", [], [1], (), (1,), (1, 2), (0, 1), {}, {1: 1}, nested(10), [0] * 1999)
 NUMBERS = (0, 1, -1, 2, -2, 3, 6, -12, 35, 49, 99, 10 ** 29, GREAT, -GREAT, EVEN_GREAT)
 
 
-def exact(pair):
-    """A pair as Python's own fraction, to hold the program against."""
-    return Fraction(pair[0], pair[1])
-
-
-class Cases(unittest.TestCase):
+class Cases(things.Cases):
     def refused(self, asked, *places, **names):
-        with self.assertRaises(ValueError) as kept:
-            asked(*places, **names)
-        self.assertIs(type(kept.exception), errors.NoNumber)
-        self.assertIs(type(kept.exception.args[0]), str)
-
-    def same_fraction(self, told, due):
-        """Kinds too: (True, 1) equals (1, 1) to Python."""
-        self.assertEqual(told, due)
-        self.assertEqual([type(told), type(told[0]), type(told[1])], [tuple, int, int])
+        self.refuses(errors.NoNumber, asked, *places, **names)
 
 
 class IsFraction(Cases):
@@ -122,7 +95,7 @@ class MakeFraction(Cases):
         for top in range(-40, 41):
             for bottom in range(1, 41):
                 due = Fraction(top, bottom)
-                self.same_fraction(fraction(top, bottom), (due.numerator, due.denominator))
+                self.same_fraction(fraction(top, bottom), pair(due))
 
     def test_what_it_tells_is_a_fraction(self):
         for top in NUMBERS:
@@ -215,15 +188,15 @@ class Added(Cases):
             for other in FRACTIONS:
                 due = exact(one) + exact(other)
                 with self.subTest(one=one, other=other):
-                    self.same_fraction(added(one, other), (due.numerator, due.denominator))
-                    self.same_fraction(added(other, one), (due.numerator, due.denominator))
+                    self.same_fraction(added(one, other), pair(due))
+                    self.same_fraction(added(other, one), pair(due))
 
     def test_what_it_tells_may_be_handed_in_again(self):
         told, due = (0, 1), Fraction(0)
         for k in range(60):
             one = fraction((-1) ** k * (GREAT - 2 * k), EVEN_GREAT - 3 * k)
             told, due = added(told, one), due + exact(one)
-            self.same_fraction(told, (due.numerator, due.denominator))
+            self.same_fraction(told, pair(due))
             self.assertIs(is_fraction(told), True)
 
     def test_far_beyond_thirty_figures(self):
@@ -265,10 +238,10 @@ class Asking(Cases):
     """Point [3]: places and names, the same again, nothing changed, nothing kept."""
 
     def test_the_names_of_the_arguments(self):
-        for name, due in (
-            ("is_fraction", ["thing"]), ("fraction", ["top", "bottom"]), ("added", ["one", "other"]), ("is_less", ["one", "other"]),
-        ):
-            self.assertEqual(list(inspect.signature(getattr(fractions, name)).parameters), due)
+        self.asked_by(is_fraction, "thing")
+        self.asked_by(fraction, "top", "bottom")
+        self.asked_by(added, "one", "other")
+        self.asked_by(is_less, "one", "other")
 
     def test_by_names(self):
         self.assertIs(is_fraction(thing=(1, 2)), True)

@@ -18,6 +18,11 @@ BUILTINS = set(
     " IndexError LookupError ZeroDivisionError ArithmeticError OverflowError RuntimeError NotImplementedError"
     " AttributeError StopIteration NotImplemented".split()
 )
+METHODS = set(
+    "append clear copy count endswith extend find get index insert isalnum isalpha isdigit islower isspace isupper items join"
+    " keys ljust lower lstrip partition pop remove replace reverse rfind rjust rpartition rsplit rstrip setdefault split"
+    " splitlines startswith strip update upper values zfill bit_length add discard __init__".split()
+)
 BARRED_NODES = (
     ast.Global, ast.AsyncFunctionDef, ast.AsyncFor, ast.AsyncWith, ast.Await, ast.Div, ast.MatMult, ast.Import,
 )
@@ -33,6 +38,20 @@ def nodes(*kinds):
         for node in ast.walk(tree):
             if isinstance(node, kinds):
                 yield f"{name}:{getattr(node, 'lineno', 0)}", node
+
+
+def names_of(node):
+    """The names that a statement at module level binds."""
+    if isinstance(node, ast.ImportFrom):
+        return [name.asname or name.name for name in node.names]
+    if isinstance(node, (ast.FunctionDef, ast.ClassDef)):
+        return [node.name]
+    return [target.id for target in getattr(node, "targets", [])]
+
+
+def names_bound(tree):
+    """The names that a file defines itself."""
+    return {name for node in tree.body if not isinstance(node, ast.ImportFrom) for name in names_of(node)}
 
 
 class Files(unittest.TestCase):
@@ -63,6 +82,52 @@ class Code(unittest.TestCase):
             self.assertEqual(node.level, 0, where)
             self.assertTrue(node.module == "__future__" or node.module.startswith("seatworth."), where)
             self.assertNotIn("*", [name.name for name in node.names], where)
+
+    def test_imports_name_the_file_that_defines_the_name(self):
+        defined = {f"seatworth.{name[:-3]}": names_bound(tree) for name, tree in trees()}
+        for where, node in nodes(ast.ImportFrom):
+            if node.module != "__future__":
+                for name in node.names:
+                    self.assertIn(name.name, defined[node.module], where)
+
+    def test_no_two_files_import_from_each_other(self):
+        needed = {
+            f"seatworth.{name[:-3]}": {node.module for node in tree.body if isinstance(node, ast.ImportFrom)}
+            for name, tree in trees()
+        }
+        while needed:
+            free = [name for name, others in needed.items() if not others & set(needed)]
+            self.assertTrue(free, needed)
+            for name in free:
+                del needed[name]
+
+    def test_no_name_in_a_function_is_that_of_a_builtin_a_class_or_an_import(self):
+        for file, tree in trees():
+            barred = set(dir(builtins)) | {node.name for node in ast.walk(tree) if isinstance(node, ast.ClassDef)}
+            for node in ast.walk(tree):
+                if isinstance(node, ast.ImportFrom):
+                    barred |= {name.asname or name.name for name in node.names}
+            for node in ast.walk(tree):
+                if isinstance(node, ast.arg):
+                    self.assertNotIn(node.arg, barred, file)
+                if isinstance(node, ast.Name) and isinstance(node.ctx, ast.Store):
+                    self.assertNotIn(node.id, barred, f"{file}:{node.lineno}")
+
+    def test_no_name_is_bound_twice_at_module_level(self):
+        for file, tree in trees():
+            bound = [name for node in tree.body for name in names_of(node)]
+            self.assertEqual(len(bound), len(set(bound)), file)
+
+    def test_no_generator_expression_stands_where_a_list_must(self):
+        for where, node in nodes(ast.Call):
+            if isinstance(node.func, ast.Name) and node.func.id in ("any", "all", "min", "max", "sum", "sorted"):
+                self.assertEqual([one for one in node.args if isinstance(one, ast.GeneratorExp)], [], where)
+
+    def test_methods_of_builtin_values_are_those_that_are_let(self):
+        own = {node.name for where, node in nodes(ast.FunctionDef)}
+        for where, node in nodes(ast.Call):
+            if isinstance(node.func, ast.Attribute):
+                self.assertIn(node.func.attr, own | METHODS, where)
 
     def test_statements_and_signs_that_are_barred(self):
         self.assertEqual([where for where, node in nodes(*BARRED_NODES)], [])
