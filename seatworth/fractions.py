@@ -12,6 +12,13 @@ def is_fraction(thing):
     return can_divide(top, bottom) and greatest_divisor(top, bottom) == 1
 
 
+def are_fractions(thing, many):
+    """Tell whether a thing of whatever kind is a tuple of so many fractions from nought on."""
+    if not isinstance(thing, tuple) or len(thing) != many:
+        return False
+    return all([is_fraction(part) and part[0] >= 0 for part in thing])
+
+
 def fraction(top, bottom):
     """Tell the fraction that is top divided by bottom."""
     # The text names no value: Python refuses to write out very long numbers.

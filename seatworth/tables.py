@@ -1,8 +1,8 @@
 """Tables that bound the worths of a sale from above, or from below, whoever made them."""
 
-from seatworth.fractions import fraction, is_fraction
+from seatworth.fractions import are_fractions
 from seatworth.sales import need_sale
-from seatworth.worths import level_before, nought_level
+from seatworth.worths import level_before, nought_level, row_level
 
 
 def over_bound(sale, thing):
@@ -26,14 +26,7 @@ def is_table(sale, thing):
     seats, periods, cases, classes = sale
     if not isinstance(thing, tuple) or len(thing) != periods + 1:
         return False
-    return all([is_row(seats, part) for part in thing])
-
-
-def is_row(seats, thing):
-    """Tell whether a thing of whatever kind is a tuple with, for each number left, a fraction from nought on."""
-    if not isinstance(thing, tuple) or len(thing) != seats + 1:
-        return False
-    return all([is_fraction(part) and part[0] >= 0 for part in thing])
+    return all([are_fractions(part, seats + 1) for part in thing])
 
 
 def beyond_due(sale, table):
@@ -50,12 +43,3 @@ def due_levels(sale, table):
     """Tell, for each time, the level of the due numbers of a table."""
     seats, periods, cases, classes = sale
     return [nought_level(seats)] + [level_before(cases, classes, row_level(row)) for row in table[:-1]]
-
-
-def row_level(row):
-    """Tell the level that tells the fractions of a row."""
-    bottom = 1
-    for number in row:
-        # What is left of its bottom in least terms is what the common bottom still lacks.
-        bottom *= fraction(bottom, number[1])[1]
-    return ([number[0] * (bottom // number[1]) for number in row], bottom)

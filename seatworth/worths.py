@@ -27,7 +27,12 @@ def worths(sale):
 def worth_levels(sale, time):
     """Tell the levels of the worths at all times, up to this one."""
     seats, periods, cases, classes = sale
-    levels = [nought_level(seats)]
+    return levels_from(cases, classes, nought_level(seats), time)
+
+
+def levels_from(cases, classes, last, time):
+    """Tell the levels at all times, up to this one, of the level behind all periods."""
+    levels = [last]
     while len(levels) <= time:
         levels.append(level_before(cases, classes, levels[-1]))
     return levels
@@ -71,3 +76,12 @@ def level_fractions(level):
     """Tell what a level tells as a tuple of fractions."""
     tops, bottom = level
     return tuple([fraction(top, bottom) for top in tops])
+
+
+def row_level(row):
+    """Tell the level that tells the fractions of a row."""
+    bottom = 1
+    for number in row:
+        # What is left of its bottom in least terms is what the common bottom still lacks.
+        bottom *= fraction(bottom, number[1])[1]
+    return ([number[0] * (bottom // number[1]) for number in row], bottom)

@@ -1,6 +1,8 @@
 """What the document tells, reckoned straight by its words with Python's own fractions: the program is held against it."""
 
+import functools
 import itertools
+import math
 from fractions import Fraction
 
 
@@ -85,3 +87,177 @@ def mean_money(sale, sells):
                 total += classes[number][0]
                 left -= classes[number][2]
     return Fraction(total, cases ** periods)
+
+
+def all_plans(sale):
+    """Point [40]: each plan of a sale, gone through one by one."""
+    seats, periods, cases, classes = sale
+    spots = []
+    for left in range(seats + 1):
+        let = [number for number, kind in enumerate(classes) if kind[2] <= left]
+        spots.append([one for many in range(len(let) + 1) for one in itertools.combinations(let, many)])
+    return itertools.product(itertools.product(*spots), repeat=periods)
+
+
+def drawn_plan(draw, sale, chance):
+    """A plan that sells what can be sold, each by this chance."""
+    seats, periods, cases, classes = sale
+    return tuple(
+        tuple(
+            tuple(number for number, kind in enumerate(classes) if kind[2] <= left and draw.random() < chance)
+            for left in range(seats + 1)
+        )
+        for time in range(periods)
+    )
+
+
+def plain_best_plan(sale):
+    """Point [40]: the plan that sells just where a class is open."""
+    seats, periods, cases, classes = sale
+    plan = []
+    for time in range(1, periods + 1):
+        lefts = [plain_opened(sale, number, time) for number in range(len(classes))]
+        plan.append(tuple(
+            tuple(number for number in range(len(classes)) if left in lefts[number]) for left in range(seats + 1)
+        ))
+    return tuple(plan)
+
+
+def plain_plan_worth(sale, plan):
+    """Point [40]: the mean money, by how likely each number left is, from the first period on."""
+    seats, periods, cases, classes = sale
+    likely = {seats: Fraction(1)}
+    mean = Fraction(0)
+    for time in range(periods, 0, -1):
+        behind = dict.fromkeys(range(seats + 1), Fraction(0))
+        for left, chance in likely.items():
+            kept = Fraction(1)
+            for number in plan[time - 1][left]:
+                fare, share, size = classes[number]
+                kept -= Fraction(share, cases)
+                behind[left - size] += chance * share / cases
+                mean += chance * share * fare / cases
+            behind[left] += chance * kept
+        likely = behind
+    return mean
+
+
+def what_comes(sale):
+    """Point [41]: what can come in a period, with its cases, None behind all numbers."""
+    seats, periods, cases, classes = sale
+    comes = {number: kind[1] for number, kind in enumerate(classes)}
+    if sum(comes.values()) < cases:
+        comes[None] = cases - sum(comes.values())
+    return comes
+
+
+def all_runs(sale):
+    """Point [41]: each run, in the order in which tuples compare, with None behind all numbers."""
+    return itertools.product(what_comes(sale), repeat=sale[1])
+
+
+def plain_run_cases(sale, run):
+    """Point [41]: all shares multiplied."""
+    comes = what_comes(sale)
+    return math.prod(comes[number] for number in run)
+
+
+def plain_money(sale, plan, run):
+    """Point [41]: the money that a plan brings in a run."""
+    seats, periods, cases, classes = sale
+    left, earned = seats, 0
+    for period, number in enumerate(run):
+        to_come = periods - period
+        if number in plan[to_come - 1][left]:
+            earned += classes[number][0]
+            left -= classes[number][2]
+    return earned
+
+
+def plain_shortfall(sale, plan, other):
+    """Point [42]: all runs gone through one by one; min tells the first of equal ones."""
+    return min(
+        ((plain_money(sale, plan, run) - plain_money(sale, other, run), run) for run in all_runs(sale)),
+        key=lambda both: both[0],
+    )
+
+
+def plain_amends(seats, sold, show, amends):
+    """Point [50]: the mean amends of so many sold."""
+    chance = Fraction(*show)
+    return sum(
+        (
+            math.comb(sold, come) * chance ** come * (1 - chance) ** (sold - come) * max(0, come - seats) * amends
+            for come in range(sold + 1)
+        ),
+        Fraction(0),
+    )
+
+
+def amends_one_by_one(seats, sold, show, amends):
+    """Point [50]: the mean amends over each case of each holder, gone through one by one."""
+    come, of = show
+    paid = [max(0, sum(case < come for case in one) - seats) * amends for one in itertools.product(range(of), repeat=sold)]
+    return Fraction(sum(paid), len(paid))
+
+
+def plain_oversold(sale, limit, show, amends):
+    """Point [50]: the most in the mean, by how many are sold so far."""
+    seats, periods, cases, classes = sale
+
+    @functools.cache
+    def most(time, sold):
+        if time == 0:
+            return -plain_amends(seats, sold, show, amends)
+        kept = most(time - 1, sold)
+        mean = Fraction(0)
+        for fare, share, size in classes:
+            if sold + size <= limit:
+                mean += share * max(Fraction(0), fare + most(time - 1, sold + size) - kept)
+        return kept + mean / cases
+
+    return most(periods, 0)
+
+
+def plain_net_worth(net):
+    """Point [60]: the most in the mean, by what is left of each leg."""
+    legs, periods, cases, products = net
+
+    @functools.cache
+    def most(time, left):
+        if time == 0:
+            return Fraction(0)
+        kept = most(time - 1, left)
+        brought = [kept] * (cases - sum(product[1] for product in products))
+        for fare, share, some in products:
+            best = kept
+            if all(left[leg] for leg in some):
+                best = max(best, fare + most(time - 1, taken(left, some)))
+            brought += [best] * share
+        return sum(brought) / cases
+
+    return most(periods, legs)
+
+
+def taken(left, some):
+    """What is left of each leg where one seat of each of these was taken."""
+    return tuple(many - (leg in some) for leg, many in enumerate(left))
+
+
+def plain_priced_worth(net, prices):
+    """Point [62]: the mean money of selling by prices, by how likely each thing left is, from the first period on."""
+    legs, periods, cases, products = net
+    likely, mean = {legs: Fraction(1)}, Fraction(0)
+    for period in range(periods):
+        behind = {}
+        for left, chance in likely.items():
+            kept = chance
+            for fare, share, some in products:
+                if all(left[leg] for leg in some) and fare >= sum(exact(prices[leg]) for leg in some):
+                    part = chance * share / cases
+                    kept -= part
+                    mean += part * fare
+                    behind[taken(left, some)] = behind.get(taken(left, some), 0) + part
+            behind[left] = behind.get(left, 0) + kept
+        likely = behind
+    return mean

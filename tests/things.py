@@ -104,6 +104,90 @@ def drawn_sales(seed, many, most_seats=12, most_periods=12, most_size=4):
     return tuple(sales)
 
 
+LEAST_NET = ((0,), 0, 1, ((1, 1, (0,)),))
+GREATEST_NET = (
+    (4, 4, 4), 6, 24, ((99, 5, (0, 1, 2)), (99, 5, (0, 1)), (99, 5, (1, 2)), (99, 5, (0, 2)), (99, 4, (1,))),
+)
+NETS = (
+    LEAST_NET,
+    GREATEST_NET,
+    ((1,), 1, 2, ((10, 1, (0,)),)),
+    ((0,), 6, 24, ((99, 24, (0,)),)),
+    ((4,), 0, 24, ((99, 24, (0,)),)),
+    ((2,), 3, 2, ((10, 1, (0,)), (90, 1, (0,)))),
+    ((1, 1), 2, 2, ((30, 1, (0, 1)), (40, 1, (0,)))),
+    ((0, 2), 3, 5, ((30, 2, (0, 1)), (40, 2, (1,)), (50, 1, (0,)))),
+    ((2, 1), 4, 7, ((60, 2, (0, 1)), (25, 3, (0,)), (31, 1, (1,)))),
+    ((1, 2, 1), 5, 10, ((90, 2, (0, 1, 2)), (40, 3, (0,)), (30, 2, (1,)), (45, 1, (2,)), (60, 2, (0, 2)))),
+    ((4, 3, 2), 6, 23, ((97, 4, (0, 1, 2)), (41, 5, (0, 1)), (43, 5, (1, 2)), (19, 4, (2,)), (7, 5, (0,)))),
+    ((4, 0, 4), 6, 24, ((99, 6, (0, 2)), (50, 6, (1,)), (20, 6, (0,)))),
+    ((2, 2, 2), 3, 4, ((1, 1, (2,)),)),
+)
+GOOD_NET = ((2, 3), 4, 10, ((60, 3, (0, 1)), (25, 3, (1,))))
+PRODUCT = (60, 3, (0, 1))
+
+
+def with_product(product):
+    """A net of two legs and one product, with all cases."""
+    return ((2, 3), 4, 24, (product,))
+
+
+NO_NETS = (
+    OTHER_KINDS
+    + tuple(with_part(GOOD_NET, 0, part) for part in OTHER_KINDS + (
+        (), (2,), (2, 3, 1, 1), (0, 0, 0, 0), [2, 3], (2, -1), (-1, 3), (5, 3), (2, 5), (2, True), (False, 3), (2, None), (2, "3"),
+        (2, [3]), ((2,), (3,)), ((2, 3),), (2, GREAT), {2: 3, 3: 2},
+    ))
+    + tuple(with_part(GOOD_NET, 1, part) for part in NO_BOUNDED + (-1, 7))
+    + tuple(with_part(GOOD_NET, 2, part) for part in NO_BOUNDED + (0, -1, 5, 25))
+    + tuple(with_part(GOOD_NET, 3, part) for part in OTHER_KINDS + (
+        (), PRODUCT, list(GOOD_NET[3]), ((),), (PRODUCT, ()), (PRODUCT, None), (PRODUCT, 1), (PRODUCT, PRODUCT[:2]), (GOOD_NET[3],),
+        ((60, 1, (0, 1)),) * 6, ((60, 1, (0, 1)),) * 7, {PRODUCT: PRODUCT}, ((60, 3, (0, 1), 1),),
+    ))
+    + tuple(with_product(part) for part in OTHER_KINDS)
+    + tuple(with_product(with_part(PRODUCT, 0, part)) for part in NO_BOUNDED + (0, -1, 100))
+    + tuple(with_product(with_part(PRODUCT, 1, part)) for part in NO_BOUNDED + (0, -1, 25))
+    + tuple(with_product(with_part(PRODUCT, 2, part)) for part in OTHER_KINDS + (
+        (), (2,), (-1,), (0, 2), (1, 0), (0, 0), (1, 1), (0, 1, 1), (0, 1, 2), (True,), (False,), (0, True), (False, 1), [0], [0, 1],
+        (None,), ("0",), ("0", "1"), ((0,), (1,)), ((0, 1),), ([0],), {0: 1, 1: 0}, (GREAT,), (-GREAT, 0), (0, None), (None, 0),
+    ))
+    + (
+        (), GOOD_NET[:3], GOOD_NET[1:], GOOD_NET + (1,), GOOD_NET + ((),), GOOD_NET * 2, (GOOD_NET,), list(GOOD_NET), GOOD_NET[::-1],
+        dict(enumerate(GOOD_NET)), GOOD, SALES[5], with_part(GOOD_NET, 0, 2),
+        ((2, 3), 4, 24, ((60, 12, (0, 1)), (25, 13, (1,)))), ((2, 3), 4, 24, ((60, 0, (0, 1)), (25, 24, (1,)))),
+        ((2, 3), 4, 24, ((60, -1, (0, 1)), (25, 25, (1,)))), ((2, 3), 4, 24, ((60, 3, (0, 1)), [25, 3, (1,)])),
+        ((2, 3), 4, 24, ((60, 3, (0, 1)), (25, 3, (2,)))), ((2,), 4, 24, ((60, 3, (0, 1)),)), ((2, 3), 4, 5, GOOD_NET[3]),
+        ((1, 1, 1), 4, 24, ((60, 3, (0, 1, 2, 3)),)), ((1, 1, 1), 4, 24, ((60, 3, (0, 2, 1)),)),
+    )
+)
+LONG_NO_NETS = (
+    ((10 ** 5000,), 4, 10, ((60, 3, (0,)),)), ((2,), -(10 ** 5000), 10, ((60, 3, (0,)),)), ((2,), 4, 10 ** 5000, ((60, 3, (0,)),)),
+    ((2,), 4, 10, ((10 ** 5000, 3, (0,)),)), ((2,), 4, 10, ((60, 10 ** 5000, (0,)),)), ((2,), 4, 10, ((60, 3, (10 ** 5000,)),)),
+)
+# Things in the place of a fraction from nought on.
+NO_AMOUNTS = OTHER_KINDS + (
+    (0, 2), (2, 4), (10, 2), (5, 0), (0, 0), (0, -1), (-1, 1), (-1, 2), (-GREAT, 1), (5, -1), (-5, -1), (), (5,), (5, 1, 1), (0, 1, 1),
+    (True, 1), (False, 1), (5, True), (0, True), (None, 1), (5, None), ("5", 1), (5, "1"), ((5, 1),), ((5, 1), 1), ([5], 1), "51",
+    (GREAT, GREAT), [5, 1],
+)
+
+
+def drawn_nets(seed, many, most_seats=4, most_periods=6):
+    """Nets that a told seed draws, always the same ones."""
+    draw = random.Random(seed)
+    nets = []
+    for k in range(many):
+        legs = tuple(draw.randint(0, most_seats) for leg in range(draw.randint(1, 3)))
+        cases = draw.randint(5, 24)
+        ends = sorted(draw.sample(range(1, cases + 1), draw.randint(1, 5)))
+        products = [
+            (draw.randint(1, 99), end - start, tuple(sorted(draw.sample(range(len(legs)), draw.randint(1, len(legs))))))
+            for start, end in zip([0] + ends, ends)
+        ]
+        nets.append((legs, draw.randint(0, most_periods), cases, tuple(products)))
+    return tuple(nets)
+
+
 class Cases(unittest.TestCase):
     def refuses(self, due, asked, *places, **names):
         """The class itself is due, not one above or below it."""
@@ -117,24 +201,35 @@ class Cases(unittest.TestCase):
         self.assertEqual(told, due)
         self.assertEqual([type(told), type(told[0]), type(told[1])], [tuple, int, int])
 
-    def asked_by(self, asked, *names):
-        """Each argument may be handed in by its place or its name, and none may be left out."""
-        parameters = inspect.signature(asked).parameters
-        self.assertEqual(list(parameters), list(names))
-        for one in parameters.values():
-            self.assertIs(one.kind, inspect.Parameter.POSITIONAL_OR_KEYWORD)
-            self.assertIs(one.default, inspect.Parameter.empty)
+    def same_number(self, told, due):
+        """A whole number, no truth: True equals 1 to Python."""
+        self.assertEqual(told, due)
+        self.assertIs(type(told), int)
 
-    def leaves_as_it_was(self, asked, *places):
+    def asked_by(self, asked, *names, **left_out):
+        """Each argument may be handed in by its place or its name, and none may be left out; but what is told with what it
+        is then, which stands behind the others, by its name alone.
+        """
+        parameters = inspect.signature(asked).parameters
+        self.assertEqual(list(parameters), list(names) + list(left_out))
+        for name, one in parameters.items():
+            if name in left_out:
+                self.assertIs(one.kind, inspect.Parameter.KEYWORD_ONLY)
+                self.assertEqual(repr(one.default), repr(left_out[name]))
+            else:
+                self.assertIs(one.kind, inspect.Parameter.POSITIONAL_OR_KEYWORD)
+                self.assertIs(one.default, inspect.Parameter.empty)
+
+    def leaves_as_it_was(self, asked, *places, **names):
         """What is handed in is the same behind it, told or refused; and the same is told again."""
-        kept, shown = copy.deepcopy(places), repr(places)
+        kept, shown = copy.deepcopy((places, names)), repr((places, names))
         answers = []
         for turn in range(2):
             try:
-                answers.append(asked(*places))
+                answers.append(asked(*places, **names))
             except ValueError as refusal:
                 answers.append((type(refusal), str(refusal)))
-        self.assertEqual(places, kept)
-        self.assertEqual(repr(places), shown)
+        self.assertEqual((places, names), kept)
+        self.assertEqual(repr((places, names)), shown)
         self.assertEqual(answers[0], answers[1])
         self.assertEqual(repr(answers[0]), repr(answers[1]))
