@@ -4,8 +4,9 @@ What is left of a net is a tuple with, for each leg, how many of its seats are.
 """
 
 from seatworth.errors import NoNet, NoPrices
-from seatworth.fractions import added, are_fractions, fraction, is_less
+from seatworth.fractions import are_fractions, fraction
 from seatworth.whole import is_between, is_rising, is_whole
+from seatworth.worths import row_level
 
 MOST_LEGS = 3
 MOST_LEG_SEATS = 4
@@ -79,17 +80,16 @@ def priced_worth(net, prices):
     need_net(net)
     need_prices(net, prices)
     legs, periods, cases, products = net
-    sold = [product for product in products if not is_less((product[0], 1), legs_price(product, prices))]
+    level = row_level(prices)
+    sold = [product for product in products if above_prices(product, level) >= 0]
     return mean_brought(net, sold, False)
 
 
-def legs_price(product, prices):
-    """Tell the prices of a product's legs together."""
+def above_prices(product, level):
+    """Tell what a product's fare is above its legs' prices together, over the bottom of the level of the prices."""
     fare, share, some = product
-    total = (0, 1)
-    for leg in some:
-        total = added(total, prices[leg])
-    return total
+    tops, bottom = level
+    return fare * bottom - sum([tops[leg] for leg in some])
 
 
 def mean_brought(net, sold, choosing):

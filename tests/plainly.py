@@ -3,6 +3,7 @@
 import functools
 import itertools
 import math
+import re
 from fractions import Fraction
 
 
@@ -261,3 +262,172 @@ def plain_priced_worth(net, prices):
             behind[left] = behind.get(left, 0) + kept
         likely = behind
     return mean
+
+
+def plain_price_bound(net, prices):
+    """Point [61]: the bound of prices, which are Python's own fractions."""
+    legs, periods, cases, products = net
+    total = sum((seats * price for seats, price in zip(legs, prices)), Fraction(0))
+    for fare, share, some in products:
+        above = fare - sum(prices[leg] for leg in some)
+        if above > 0:
+            total += Fraction(periods * share, cases) * above
+    return total
+
+
+def plain_flow_sum(net, amounts):
+    """Point [61]: the sum of amounts, which are Python's own fractions; None where they are no amounts."""
+    legs, periods, cases, products = net
+    for amount, (fare, share, some) in zip(amounts, products):
+        if amount < 0 or amount > Fraction(periods * share, cases):
+            return None
+    for leg, seats in enumerate(legs):
+        if sum(amount for amount, product in zip(amounts, products) if leg in product[2]) > seats:
+            return None
+    return sum((product[0] * amount for amount, product in zip(amounts, products)), Fraction(0))
+
+
+def plain_least_bound(net):
+    """Point [61]: the least bound, over each corner: prices that solve as many as there are legs of these alike: a leg's
+    price is nought, a product's fare is just its legs' prices together. A bound is nowhere less than at its corners.
+    """
+    legs, periods, cases, products = net
+    planes = [([int(leg == other) for other in range(len(legs))], 0) for leg in range(len(legs))]
+    planes += [([int(leg in some) for leg in range(len(legs))], fare) for fare, share, some in products]
+    bounds = []
+    for some in itertools.combinations(planes, len(legs)):
+        corner = solved([row for row, right in some], [right for row, right in some])
+        if corner is not None and min(corner) >= 0:
+            bounds.append(plain_price_bound(net, corner))
+    return min(bounds)
+
+
+def solved(rows, right):
+    """What solves alike rows, each times it being what is right of it; None where not just one thing does."""
+    rows = [[Fraction(number) for number in row] + [Fraction(one)] for row, one in zip(rows, right)]
+    for at in range(len(rows)):
+        found = next((other for other in range(at, len(rows)) if rows[other][at]), None)
+        if found is None:
+            return None
+        rows[at], rows[found] = rows[found], rows[at]
+        rows[at] = [number / rows[at][at] for number in rows[at]]
+        for other in range(len(rows)):
+            if other != at:
+                rows[other] = [one - rows[other][at] * two for one, two in zip(rows[other], rows[at])]
+    return [row[-1] for row in rows]
+
+
+@functools.cache
+def kept_worths(sale):
+    """All worths of a sale, kept: they are not changed."""
+    return plain_worths(sale)
+
+
+class PlainCounter:
+    """Point [70]: a counter that keeps nothing but what came, and goes through it all again for each answer."""
+
+    def __init__(self, sale):
+        self.sale, self.past = sale, []
+
+    def is_sold(self, number, time, left):
+        """Point [30]: whether an ask of the class is open then."""
+        fare, share, size = self.sale[3][number]
+        later = kept_worths(self.sale)[time - 1]
+        return size <= left and fare + later[left - size] >= later[left]
+
+    def stand(self):
+        """What is left, what is to come, what is earned."""
+        seats, periods, cases, classes = self.sale
+        left, time, earned = seats, periods, 0
+        for number in self.past:
+            if number is not None and self.is_sold(number, time, left):
+                left, earned = left - classes[number][2], earned + classes[number][0]
+            time -= 1
+        return left, time, earned
+
+    def worth_now(self):
+        """What is earned and the worth, together."""
+        left, time, earned = self.stand()
+        return earned + kept_worths(self.sale)[time][left]
+
+
+NUMBER = "(?:0|[1-9][0-9]*)"
+
+
+def plain_sale_read(text):
+    """Point [80]: the sale that a text writes, or the number of the first word that is none there."""
+    words = text.split(" ")
+    numbers, kinds = [], []
+    for at, word in enumerate(words):
+        if at < 3:
+            least, most = ((0, 12), (0, 12), (1, 24))[at]
+            if not re.fullmatch(NUMBER, word) or not least <= int(word) <= most:
+                return at
+            numbers.append(int(word))
+        else:
+            if at == 7 or not re.fullmatch(f"{NUMBER}/{NUMBER}/{NUMBER}", word):
+                return at
+            fare, share, size = map(int, word.split("/"))
+            if not (1 <= fare <= 99 and 1 <= share and 1 <= size <= 4):
+                return at
+            kinds.append((fare, share, size))
+            if sum(kind[1] for kind in kinds) > numbers[2]:
+                return at
+    return tuple(numbers) + (tuple(kinds),) if kinds else len(words)
+
+
+def plain_fraction_text(number):
+    """Point [80]: Python's own fraction as a text, with a bottom of 1 too."""
+    return f"{number.numerator}/{number.denominator}"
+
+
+class PlainDesk:
+    """Point [81]: a desk; refusals are told as (class, number of the word) in the place of an answer."""
+
+    def __init__(self):
+        self.counter = PlainCounter((0, 0, 1, ((1, 1, 1),)))
+
+    def say(self, line):
+        if type(line) is not str:
+            return ("NoLine", None)
+        if line.startswith("sale "):
+            read = plain_sale_read(line[5:])
+            if type(read) is int:
+                return ("NoText", read)
+            self.counter = PlainCounter(read)
+            return "ok"
+        if re.fullmatch(f"(ask|open) {NUMBER}", line) and len(line.split(" ")[1]) <= 30:
+            return self.numbered(*line.split(" "))
+        if line in ("none", "undo"):
+            return self.deed(line)
+        left, time, earned = self.counter.stand()
+        answers = {
+            "left": f"{left}", "time": f"{time}", "earned": f"{earned}", "worth": plain_fraction_text(self.counter.worth_now()),
+            "came": " ".join("-" if number is None else f"{number}" for number in self.counter.past) or "nothing",
+        }
+        return answers.get(line, ("NoLine", None))
+
+    def deed(self, line):
+        left, time, earned = self.counter.stand()
+        if line == "none":
+            if time == 0:
+                return ("Over", None)
+            self.counter.past.append(None)
+        else:
+            if not self.counter.past:
+                return ("Nothing", None)
+            del self.counter.past[-1]
+        return "ok"
+
+    def numbered(self, word, figures):
+        number, (left, time, earned) = int(figures), self.counter.stand()
+        if number >= len(self.counter.sale[3]):
+            return ("NoClass", None)
+        if time == 0:
+            return ("Over" if word == "ask" else "NoTime", None)
+        if word == "ask":
+            sold = self.counter.is_sold(number, time, left)
+            self.counter.past.append(number)
+            return "sold" if sold else "kept"
+        lefts = [many for many in range(self.counter.sale[0] + 1) if self.counter.is_sold(number, time, many)]
+        return " ".join(map(str, lefts)) or "nothing"

@@ -21,7 +21,7 @@ BUILTINS = set(
 METHODS = set(
     "append clear copy count endswith extend find get index insert isalnum isalpha isdigit islower isspace isupper items join"
     " keys ljust lower lstrip partition pop remove replace reverse rfind rjust rpartition rsplit rstrip setdefault split"
-    " splitlines startswith strip update upper values zfill bit_length add discard __init__".split()
+    " splitlines startswith strip update upper values zfill bit_length add discard isascii __init__".split()
 )
 BARRED_NODES = (
     ast.Global, ast.AsyncFunctionDef, ast.AsyncFor, ast.AsyncWith, ast.Await, ast.Div, ast.MatMult, ast.Import,
@@ -128,6 +128,50 @@ class Code(unittest.TestCase):
         for where, node in nodes(ast.Call):
             if isinstance(node.func, ast.Attribute):
                 self.assertIn(node.func.attr, own | METHODS, where)
+
+    def test_what_is_iterated_at_once_is_not_stored(self):
+        def is_iterated(node):
+            if not isinstance(node, ast.Call):
+                return False
+            name = getattr(node.func, "id", None) or getattr(node.func, "attr", None)
+            return name in ("range", "zip", "enumerate", "reversed", "items", "keys", "values")
+        for where, node in nodes(ast.Assign, ast.Return):
+            self.assertFalse(is_iterated(node.value), where)
+        for where, node in nodes(ast.Tuple, ast.List):
+            self.assertFalse(any(is_iterated(part) for part in node.elts), where)
+
+    def test_exponents_are_literals(self):
+        for where, node in nodes(ast.BinOp):
+            if isinstance(node.op, ast.Pow):
+                self.assertIsInstance(node.right, ast.Constant, where)
+                self.assertIn(node.right.value, range(65), where)
+
+    def test_no_name_is_a_method_in_one_class_and_an_attribute_in_another(self):
+        methods = {part.name for where, node in nodes(ast.ClassDef) for part in node.body if isinstance(part, ast.FunctionDef)}
+        stored = {node.attr for where, node in nodes(ast.Attribute) if isinstance(node.ctx, ast.Store)}
+        read = {node.attr for where, node in nodes(ast.Attribute) if isinstance(node.ctx, ast.Load)}
+        self.assertEqual(methods & stored, set())
+        self.assertEqual(read - stored - methods - METHODS, set())
+
+    def test_names_that_are_not_used(self):
+        barred = set("register mro elements open input version_info with_traceback add_note".split())
+        for where, node in nodes(ast.Name, ast.arg, ast.keyword, ast.Attribute, ast.FunctionDef, ast.ClassDef):
+            for field in ("id", "arg", "attr", "name"):
+                self.assertNotIn(getattr(node, field, None), barred, where)
+
+    def test_lists_at_module_level_are_read_alone(self):
+        for file, tree in trees():
+            tables = {
+                target.id for node in tree.body if isinstance(node, ast.Assign) and isinstance(node.value, (ast.List, ast.Dict))
+                for target in node.targets
+            }
+            for node in ast.walk(tree):
+                if isinstance(node, ast.Call):
+                    if isinstance(node.func, ast.Attribute) and isinstance(node.func.value, ast.Name):
+                        self.assertNotIn(node.func.value.id, tables, file)
+                    self.assertEqual([one.id for one in node.args if isinstance(one, ast.Name) and one.id in tables], [], file)
+                if isinstance(node, ast.Subscript) and isinstance(node.value, ast.Name) and node.value.id in tables:
+                    self.assertIsInstance(node.ctx, ast.Load, file)
 
     def test_statements_and_signs_that_are_barred(self):
         self.assertEqual([where for where, node in nodes(*BARRED_NODES)], [])

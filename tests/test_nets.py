@@ -11,8 +11,8 @@ from seatworth.fractions import is_fraction, is_less
 from seatworth.nets import is_net, net_worth, priced_worth
 from seatworth.worths import worth
 from things import (
-    GOOD_NET, GREAT, GREATEST_NET, LEAST_NET, LONG_NO_NETS, NETS, NO_AMOUNTS, NO_BOUNDED, NO_NETS, OTHER_KINDS, PRODUCT, SALES, Cases,
-    drawn_nets, drawn_sales, with_part, with_product,
+    GOOD_NET, GREAT, GREATEST_NET, LEAST_NET, LONG_NO_NETS, NETS, NO_BOUNDED, NO_NETS, OTHER_KINDS, PRODUCT, SALES, Cases,
+    drawn_nets, drawn_sales, no_rows, with_part, with_product,
 )
 
 # Two legs of one seat; of both together 30, of the first one alone 40.
@@ -254,12 +254,7 @@ class Refusals(Cases):
 
     def test_no_prices(self):
         for net in NETS + (GOOD_NET,):
-            prices = ((1, 2),) * len(net[0])
-            things = OTHER_KINDS + (
-                (), prices + ((1, 2),), prices[1:], (prices,), list(prices), [list(one) for one in prices], dict(enumerate(prices)),
-                prices + ((),), prices + (None,), net, net[0], prices * 4, (1, 2),
-            )
-            for thing in things + tuple(with_part(prices, at, part) for at in range(len(prices)) for part in NO_AMOUNTS):
+            for thing in no_rows(net, len(net[0])):
                 with self.subTest(net=net, thing=thing):
                     self.refuses(NoPrices, priced_worth, net, thing)
         self.refuses(NoPrices, priced_worth, PAIR, ((2 * 3 ** 10000, 2), (0, 1)))

@@ -172,6 +172,15 @@ NO_AMOUNTS = OTHER_KINDS + (
 )
 
 
+def no_rows(net, many):
+    """Things that are no tuple of so many fractions from nought on, in the place of a net's prices or amounts."""
+    good = ((0, 1),) * many
+    return OTHER_KINDS + (
+        (), good + ((0, 1),), good[1:], (good,), list(good), [list(one) for one in good], dict(enumerate(good)), good + ((),), good + (None,),
+        good * 6, net, net[0], net[3], (0, 1), (0,) * many, ((0, 1, 1),) * many, (None,) * many,
+    ) + tuple(with_part(good, at, part) for at in range(many) for part in NO_AMOUNTS)
+
+
 def drawn_nets(seed, many, most_seats=4, most_periods=6):
     """Nets that a told seed draws, always the same ones."""
     draw = random.Random(seed)
